@@ -1,0 +1,1 @@
+"""Machines that read words from both ends at once, inward."""

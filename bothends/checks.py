@@ -1,0 +1,82 @@
+"""What is a machine and what is a word: the refusals that several files share."""
+
+from bothends.errors import BadMachine, BadWord
+
+MOST_LETTERS = 3
+MOST_STATES = 40
+
+
+def is_number(value):
+    """Whether it is a whole number; True and False are none."""
+    return isinstance(value, int) and not isinstance(value, bool)
+
+
+def is_list_of(value, many):
+    """Whether it is a list of so many items."""
+    return isinstance(value, list) and len(value) == many
+
+
+def are_letters(value):
+    """Whether it is a text of one to three rising letters from a to z."""
+    if not isinstance(value, str) or not 1 <= len(value) <= MOST_LETTERS:
+        return False
+    # Rising letters are all from a to z if the first and the last of them are.
+    if value[0] < "a" or value[-1] > "z":
+        return False
+    return all([one < other for one, other in zip(value, value[1:])])
+
+
+def are_states(value, many, states):
+    """Whether it is a list of so many numbers of states."""
+    return is_list_of(value, many) and all([is_number(goal) and 0 <= goal < states for goal in value])
+
+
+def are_truths(value, many):
+    """Whether it is a list of so many of True and False."""
+    return is_list_of(value, many) and all([isinstance(truth, bool) for truth in value])
+
+
+def are_moves(value, pairs):
+    """Whether it is a list with, for each of 1 to 40 states, a state for each pair of letters."""
+    if not isinstance(value, list) or not 1 <= len(value) <= MOST_STATES:
+        return False
+    return all([are_states(row, pairs, len(value)) for row in value])
+
+
+def are_middles(value, states, many):
+    """Whether it is a list with, for each state, True or False for each letter."""
+    return is_list_of(value, states) and all([are_truths(row, many) for row in value])
+
+
+def is_machine(value):
+    """Whether it is a tuple of letters, moves, ends and middles that fit each other."""
+    if not isinstance(value, tuple) or len(value) != 4:
+        return False
+    letters, moves, ends, middles = value
+    if not are_letters(letters):
+        return False
+    many = len(letters)
+    if not are_moves(moves, many * many):
+        return False
+    return are_truths(ends, len(moves)) and are_middles(middles, len(moves), many)
+
+
+def check_machine(machine):
+    """Refuse what is no machine."""
+    if not is_machine(machine):
+        raise BadMachine("no machine: a tuple of letters, moves, ends and middles")
+
+
+def check_word(letters, word, most):
+    """Refuse what is no text of these letters, at most so many."""
+    # The length comes first, so that a huge text is not read through.
+    if not isinstance(word, str) or len(word) > most or not all([letter in letters for letter in word]):
+        raise BadWord(f"no text of the letters {letters}, at most {most} of them")
+
+
+def check_two_words(letters, one, other, most):
+    """Refuse what are no two texts of these letters, of as many letters, at most so many."""
+    check_word(letters, one, most)
+    check_word(letters, other, most)
+    if len(one) != len(other):
+        raise BadWord(f"unlike many letters: {len(one)} and {len(other)}")
