@@ -1,6 +1,6 @@
 """What is a machine and what is a word: the refusals that several files share."""
 
-from bothends.errors import BadMachine, BadWord
+from bothends.errors import BadLength, BadLetters, BadMachine, BadWord, Unlike
 
 MOST_LETTERS = 3
 MOST_STATES = 40
@@ -26,9 +26,14 @@ def are_letters(value):
     return all([one < other for one, other in zip(value, value[1:])])
 
 
+def is_state(value, states):
+    """Whether it is the number of one of so many states."""
+    return is_number(value) and 0 <= value < states
+
+
 def are_states(value, many, states):
     """Whether it is a list of so many numbers of states."""
-    return is_list_of(value, many) and all([is_number(goal) and 0 <= goal < states for goal in value])
+    return is_list_of(value, many) and all([is_state(goal, states) for goal in value])
 
 
 def are_truths(value, many):
@@ -61,17 +66,43 @@ def is_machine(value):
     return are_truths(ends, len(moves)) and are_middles(middles, len(moves), many)
 
 
+def is_text_of(letters, value):
+    """Whether it is a text of these letters, also of none."""
+    return isinstance(value, str) and all([letter in letters for letter in value])
+
+
+def check_letters(letters):
+    """Refuse what are no letters of a machine."""
+    if not are_letters(letters):
+        raise BadLetters("no one to three rising letters from a to z")
+
+
 def check_machine(machine):
     """Refuse what is no machine."""
     if not is_machine(machine):
         raise BadMachine("no machine: a tuple of letters, moves, ends and middles")
 
 
+def check_two_machines(one, other):
+    """Refuse what are no two machines with the same letters."""
+    check_machine(one)
+    check_machine(other)
+    if one[0] != other[0]:
+        raise Unlike(f"unlike letters: {one[0]} and {other[0]}")
+
+
 def check_word(letters, word, most):
     """Refuse what is no text of these letters, at most so many."""
     # The length comes first, so that a huge text is not read through.
-    if not isinstance(word, str) or len(word) > most or not all([letter in letters for letter in word]):
+    if not isinstance(word, str) or len(word) > most or not is_text_of(letters, word):
         raise BadWord(f"no text of the letters {letters}, at most {most} of them")
+
+
+def check_letter(letters, letter):
+    """Refuse what is no one of these letters."""
+    # A text of none or of two letters is also in the letters, as Python asks.
+    if not isinstance(letter, str) or len(letter) != 1 or letter not in letters:
+        raise BadWord(f"no one of the letters {letters}")
 
 
 def check_two_words(letters, one, other, most):
@@ -80,3 +111,9 @@ def check_two_words(letters, one, other, most):
     check_word(letters, other, most)
     if len(one) != len(other):
         raise BadWord(f"unlike many letters: {len(one)} and {len(other)}")
+
+
+def check_length(long, most):
+    """Refuse what is no number from 0 to so many."""
+    if not is_number(long) or not 0 <= long <= most:
+        raise BadLength(f"no number from 0 to {most}")

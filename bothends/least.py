@@ -1,6 +1,7 @@
 """The least machine of those that are alike."""
 
-from bothends.checks import check_machine
+from bothends.checks import MOST_STATES, check_machine
+from bothends.errors import TooMany
 
 
 def come_by(moves):
@@ -36,9 +37,11 @@ def alike_groups(order, moves, ends, middles):
     """For each state the number of the group of states behind which the same words are had."""
     groups = grouped(order, {state: (ends[state], tuple(middles[state])) for state in order})
     highest = -1
-    # Groups only ever fall apart: as soon as none does, none will later.
+    # Groups only ever fall apart: as soon as none does, none will later; and too many stay too many.
     while highest < max(groups.values()):
         highest = max(groups.values())
+        if highest >= MOST_STATES:
+            raise TooMany(f"the least machine has more than {MOST_STATES} states")
         groups = grouped(order, marks_by_move(order, moves, groups))
     return groups
 
@@ -53,7 +56,7 @@ def first_of_each(order, groups):
 
 
 def least_alike(machine):
-    """The least machine that is alike, of what is known to be a machine."""
+    """The least machine that is alike, of what is a machine but may have more states than are allowed."""
     letters, moves, ends, middles = machine
     order = come_by(moves)
     # Groups counted in the order of their first states are counted as the least machine's

@@ -21,16 +21,21 @@ def state_behind(machine, left, right):
     return state
 
 
-def has(machine, word):
-    """Whether the machine has the word, of at most 60 letters."""
-    check_machine(machine)
+def reads(machine, word):
+    """Whether a machine has a word of its letters, however long that is."""
     letters, moves, ends, middles = machine
-    check_word(letters, word, MOST_OF_WORD)
     half = len(word) // 2
     state = state_behind(machine, word[:half], word[len(word) - half:])
     if len(word) == 2 * half:
         return ends[state]
     return middles[state][letters.index(word[half])]
+
+
+def has(machine, word):
+    """Whether the machine has the word, of at most 60 letters."""
+    check_machine(machine)
+    check_word(machine[0], word, MOST_OF_WORD)
+    return reads(machine, word)
 
 
 def behind(machine, left, right):

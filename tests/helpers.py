@@ -150,6 +150,32 @@ def ring(states):
     )
 
 
+def one_state(letters, truth):
+    """The machine of all words of these letters, or of none."""
+    many = len(letters)
+    return (letters, [[0] * (many * many)], [truth], [[truth] * many])
+
+
+def looped(letters, states, back, ended):
+    """By any letters from each state to the next, from the last one back to another; these states have ends."""
+    many = len(letters)
+    return (
+        letters,
+        [[state + 1 if state + 1 < states else back] * (many * many) for state in range(states)],
+        [state in ended for state in range(states)],
+        [[False] * many for state in range(states)],
+    )
+
+
+def lists_in(machine):
+    """All lists of a machine, those within lists too."""
+    for part in machine[1:]:
+        yield part
+        for row in part:
+            if isinstance(row, list):
+                yield row
+
+
 def replaced(machine, part, value):
     """The machine with another value for one of its four parts."""
     parts = list(copy.deepcopy(machine))

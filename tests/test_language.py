@@ -21,6 +21,11 @@ BARRED_WORDS = set("""
 BARRED_STATEMENTS = (
     ast.Global, ast.Import, ast.AsyncFunctionDef, ast.AsyncFor, ast.AsyncWith, ast.Await, ast.Div, ast.MatMult,
 )
+ALLOWED_METHODS = set("""
+    append clear copy count endswith extend find get index insert isalnum isalpha isdigit islower isspace isupper
+    items join keys ljust lower lstrip partition pop remove replace reverse rfind rjust rpartition rsplit rstrip
+    setdefault split splitlines startswith strip update upper values zfill bit_length add discard
+""".split())
 TOP_STATEMENTS = (ast.ImportFrom, ast.FunctionDef, ast.ClassDef, ast.Assign)
 
 
@@ -34,6 +39,18 @@ def sources():
 def nodes_of(tree, kind):
     """The parts of a tree that are of this kind."""
     return [node for node in ast.walk(tree) if isinstance(node, kind)]
+
+
+def own_methods():
+    """The names of all methods of the package's classes."""
+    classes = [node for path, text, tree in sources() for node in nodes_of(tree, ast.ClassDef)]
+    return {part.name for node in classes for part in node.body if isinstance(part, ast.FunctionDef)}
+
+
+def own_fields():
+    """The names of all attributes that the package assigns."""
+    found = [node for path, text, tree in sources() for node in nodes_of(tree, ast.Attribute)]
+    return {node.attr for node in found if isinstance(node.ctx, ast.Store)}
 
 
 class TestLanguage(unittest.TestCase):
@@ -70,6 +87,12 @@ class TestLanguage(unittest.TestCase):
             for node in nodes_of(tree, ast.ImportFrom):
                 self.assertTrue(node.module.startswith("bothends.") and node.level == 0, path.name)
                 self.assertIn(node, tree.body, path.name)
+                # The very file that defines the name.
+                defined = ast.parse((PACKAGE / (node.module.split(".")[1] + ".py")).read_text(encoding="utf-8")).body
+                names = [part.name for part in defined if hasattr(part, "name")]
+                names += [part.targets[0].id for part in defined if isinstance(part, ast.Assign)]
+                for name in node.names:
+                    self.assertIn(name.name, names, path.name)
 
     def test_names(self):
         for path, text, tree in sources():
@@ -79,6 +102,29 @@ class TestLanguage(unittest.TestCase):
                     self.assertIsInstance(node.ctx, ast.Load, path.name)
             for node in nodes_of(tree, ast.arg):
                 self.assertFalse(hasattr(builtins, node.arg), node.arg)
+
+    def test_local_names(self):
+        for path, text, tree in sources():
+            taken = {name.name for node in nodes_of(tree, ast.ImportFrom) for name in node.names}
+            taken |= {node.name for node in nodes_of(tree, ast.ClassDef)}
+            inside = {node.arg for node in nodes_of(tree, ast.arg)}
+            inside |= {node.id for node in nodes_of(tree, ast.Name) if isinstance(node.ctx, ast.Store)}
+            self.assertEqual(taken & inside, set(), path.name)
+            self.assertEqual([name for name in inside if name.startswith("_")], [], path.name)
+
+    def test_methods_and_attributes(self):
+        methods, fields = own_methods(), own_fields()
+        self.assertEqual(methods & fields, set())
+        for kind in [str, int, list, dict, set, bytes, tuple]:
+            self.assertEqual((methods - {"__init__"} | fields) & set(dir(kind)), set())
+        for path, text, tree in sources():
+            for node in nodes_of(tree, ast.Attribute):
+                self.assertIn(node.attr, methods | fields | ALLOWED_METHODS, path.name)
+
+    def test_no_generators(self):
+        # They are allowed, but under so many conditions that lists do better.
+        for path, text, tree in sources():
+            self.assertEqual(nodes_of(tree, (ast.GeneratorExp, ast.Yield, ast.YieldFrom)), [], path.name)
 
 
 if __name__ == "__main__":

@@ -8,7 +8,7 @@ from bothends.errors import BadMachine
 from bothends.least import least
 from bothends.machines import has
 from tests.helpers import (
-    ENDS_MEET, EVERY_FOURTH, FIRST_A_LAST_B, SAMPLES, THREE_LETTERS, bad_parts, counted_otherwise, doubled,
+    ENDS_MEET, EVERY_FOURTH, FIRST_A_LAST_B, SAMPLES, THREE_LETTERS, bad_parts, counted_otherwise, doubled, lists_in,
     made_machine, odd_values, ring, shuffled, words_of, words_up_to,
 )
 
@@ -59,15 +59,6 @@ def made_machines():
         yield made_machine(["a", "bz", "abc"][seed % 3], 1 + seed % 5, seed)
     for seed in range(12):
         yield made_machine(["a", "bz", "abc"][seed % 3], 40 - seed, 100 + seed)
-
-
-def lists_in(machine):
-    """All lists of a machine, those within lists too."""
-    for part in machine[1:]:
-        yield part
-        for row in part:
-            if isinstance(row, list):
-                yield row
 
 
 class TestLeast(unittest.TestCase):
