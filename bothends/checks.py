@@ -1,9 +1,10 @@
 """What is a machine and what is a word: the refusals that several files share."""
 
-from bothends.errors import BadLength, BadLetters, BadMachine, BadWord, Unlike
+from bothends.errors import BadLength, BadLetters, BadMachine, BadPlain, BadWord, Unlike
 
 MOST_LETTERS = 3
 MOST_STATES = 40
+MOST_PLAIN_STATES = 3
 
 
 def is_number(value):
@@ -41,11 +42,11 @@ def are_truths(value, many):
     return is_list_of(value, many) and all([isinstance(truth, bool) for truth in value])
 
 
-def are_moves(value, pairs):
-    """Whether it is a list with, for each of 1 to 40 states, a state for each pair of letters."""
-    if not isinstance(value, list) or not 1 <= len(value) <= MOST_STATES:
+def are_moves(value, many, most):
+    """Whether it is a list with, for each of 1 to that many states at most, so many numbers of states."""
+    if not isinstance(value, list) or not 1 <= len(value) <= most:
         return False
-    return all([are_states(row, pairs, len(value)) for row in value])
+    return all([are_states(row, many, len(value)) for row in value])
 
 
 def are_middles(value, states, many):
@@ -61,9 +62,19 @@ def is_machine(value):
     if not are_letters(letters):
         return False
     many = len(letters)
-    if not are_moves(moves, many * many):
+    if not are_moves(moves, many * many, MOST_STATES):
         return False
     return are_truths(ends, len(moves)) and are_middles(middles, len(moves), many)
+
+
+def is_plain(value):
+    """Whether it is a triple of letters, moves and ends that fit each other, of a machine with one head."""
+    if not isinstance(value, tuple) or len(value) != 3:
+        return False
+    letters, moves, ends = value
+    if not are_letters(letters) or not are_moves(moves, len(letters), MOST_PLAIN_STATES):
+        return False
+    return are_truths(ends, len(moves))
 
 
 def is_text_of(letters, value):
@@ -81,6 +92,12 @@ def check_machine(machine):
     """Refuse what is no machine."""
     if not is_machine(machine):
         raise BadMachine("no machine: a tuple of letters, moves, ends and middles")
+
+
+def check_plain(plain):
+    """Refuse what is no plain machine."""
+    if not is_plain(plain):
+        raise BadPlain("no plain machine: a triple of letters, moves and ends")
 
 
 def check_two_machines(one, other):
@@ -113,7 +130,14 @@ def check_two_words(letters, one, other, most):
         raise BadWord(f"unlike many letters: {len(one)} and {len(other)}")
 
 
-def check_length(long, most):
-    """Refuse what is no number from 0 to so many."""
-    if not is_number(long) or not 0 <= long <= most:
-        raise BadLength(f"no number from 0 to {most}")
+def check_count(many):
+    """Refuse what is no number from 0 on."""
+    if not is_number(many) or many < 0:
+        raise BadLength("no number from 0 on")
+
+
+def check_length(long, fewest, most):
+    """Refuse what is no number from so many to so many."""
+    if not is_number(long) or not fewest <= long <= most:
+        # The fewest are not written out: Python refuses to write out numbers of very many digits.
+        raise BadLength(f"no number within the limits, at most {most}")

@@ -78,7 +78,7 @@ class Beginning:
 def how_many(machine, long):
     """How many words of that length, 0 to 60, the machine has."""
     check_machine(machine)
-    check_length(long, MOST_OF_WORD)
+    check_length(long, 0, MOST_OF_WORD)
     return counts_inside(machine, long)[-1][0]
 
 

@@ -1,40 +1,16 @@
 """Machines made of other machines, each told as the least one of its words."""
 
 from bothends.checks import check_letter, check_letters, check_machine, check_two_machines
+from bothends.exploring import built, paired
 from bothends.least import least_alike
 from bothends.machines import behind, pair_at
-
-
-def built(letters, start, state_of):
-    """The least machine from a start on, where state_of tells of each state its goals, its end and its middles."""
-    found = [start]
-    numbers = {start: 0}
-    moves, ends, middles = [], [], []
-    while len(moves) < len(found):
-        goals, end, truths = state_of(found[len(moves)])
-        for goal in goals:
-            if goal not in numbers:
-                numbers[goal] = len(found)
-                found.append(goal)
-        moves.append([numbers[goal] for goal in goals])
-        ends.append(end)
-        middles.append(truths)
-    return least_alike((letters, moves, ends, middles))
 
 
 def joined(one, other, join):
     """The least machine of the words of which join, of whether the one and whether the other has them, is True."""
     check_two_machines(one, other)
-
-    def state_of(pair):
-        mine, theirs = pair
-        return (
-            list(zip(one[1][mine], other[1][theirs])),
-            join(one[2][mine], other[2][theirs]),
-            [join(truth, other_truth) for truth, other_truth in zip(one[3][mine], other[3][theirs])],
-        )
-
-    return built(one[0], (0, 0), state_of)
+    pairs, machine = paired(one, other, join)
+    return least_alike(machine)
 
 
 def both(one, other):

@@ -167,6 +167,89 @@ def looped(letters, states, back, ended):
     )
 
 
+def come_by_together(one, other):
+    """The pairs of states that two machines come to by the same texts."""
+    pairs = [(0, 0)]
+    for mine, theirs in pairs:
+        for goals in zip(one[1][mine], other[1][theirs]):
+            if goals not in pairs:
+                pairs.append(goals)
+    return pairs
+
+
+def alike_pairs(pairs, one, other):
+    """Whether the pairs are as point 5 tells, asked word by word of it."""
+    states = list(itertools.product(range(len(one[1])), range(len(other[1]))))
+    if (0, 0) not in pairs or any(pair not in states for pair in pairs):
+        return False
+    return all(
+        one[2][mine] is other[2][theirs]
+        and all(one[3][mine][at] is other[3][theirs][at] for at in range(len(one[0])))
+        and all((one[1][mine][at], other[1][theirs][at]) in pairs for at in range(len(one[1][0])))
+        for mine, theirs in pairs
+    )
+
+
+def empty_states(states, machine):
+    """Whether the states are as point 6 tells, asked word by word of it."""
+    if 0 not in states or any(state not in range(len(machine[1])) for state in states):
+        return False
+    return all(
+        machine[2][state] is False and True not in machine[3][state]
+        and all(goal in states for goal in machine[1][state])
+        for state in states
+    )
+
+
+def parting_endings(machine, one, other, long):
+    """All endings with which both beginnings are that long and just one word is had."""
+    endings = ["".join(ending) for ending in itertools.product(machine[0], repeat=long - len(one))]
+    return [ending for ending in endings if reads(machine, one + ending) != reads(machine, other + ending)]
+
+
+def beginnings(machine, most):
+    """All pairs of texts of as many letters, at most so many."""
+    texts = list(words_up_to(machine[0], most))
+    return [(one, other) for one in texts for other in texts if len(one) == len(other)]
+
+
+def sparse_machine(letters, states, seed):
+    """Some machine with so many states that has just one end or one middle, the same one for the same seed."""
+    chance = random.Random(seed)
+    machine = made_machine(letters, states, seed)
+    ends = [False] * states
+    middles = [[False] * len(letters) for state in range(states)]
+    if chance.random() < 0.5:
+        ends[chance.randrange(states)] = True
+    else:
+        middles[chance.randrange(states)][chance.randrange(len(letters))] = True
+    return (letters, machine[1], ends, middles)
+
+
+def path_to(letters, word):
+    """The machine of this one word: a state for each pair of it, and behind them one for all other words."""
+    half = len(word) // 2
+    astray = half + 1
+    moves = [[astray] * (len(letters) * len(letters)) for state in range(half + 2)]
+    for state in range(half):
+        first, last = word[state], word[len(word) - 1 - state]
+        moves[state][letters.index(first) * len(letters) + letters.index(last)] = state + 1
+    odd = len(word) % 2 == 1
+    return (
+        letters,
+        moves,
+        [state == half and not odd for state in range(half + 2)],
+        [[state == half and odd and letter == word[half] for letter in letters] for state in range(half + 2)],
+    )
+
+
+def as_told(value):
+    """What is told as it can be compared: an answer by its class and its fields."""
+    if value.__class__.__module__ == "bothends.answers":
+        return value.__class__.__name__, vars(value)
+    return value
+
+
 def lists_in(machine):
     """All lists of a machine, those within lists too."""
     for part in machine[1:]:

@@ -8,57 +8,11 @@ import unittest
 from bothends import answers
 from bothends.answers import Alike, Answer, Apart, Empty, First, Same, Told
 from tests.helpers import (
-    ENDS_MEET, EVERY_FOURTH, FIRST_A_LAST_B, SAMPLES, THREE_LETTERS, doubled, looped, made_machine, one_state, reads,
-    ring, shuffled, words_up_to,
+    ENDS_MEET, EVERY_FOURTH, FIRST_A_LAST_B, SAMPLES, THREE_LETTERS, alike_pairs, beginnings, come_by_together, doubled,
+    empty_states, looped, made_machine, one_state, parting_endings, reads, ring, shuffled, words_up_to,
 )
 
 HUGE = 10 ** 5000
-
-
-def come_by_together(one, other):
-    """The pairs of states that two machines come to by the same texts."""
-    pairs = [(0, 0)]
-    for mine, theirs in pairs:
-        for goals in zip(one[1][mine], other[1][theirs]):
-            if goals not in pairs:
-                pairs.append(goals)
-    return pairs
-
-
-def alike_pairs(pairs, one, other):
-    """Whether the pairs are as point 5 tells, asked word by word of it."""
-    states = list(itertools.product(range(len(one[1])), range(len(other[1]))))
-    if (0, 0) not in pairs or any(pair not in states for pair in pairs):
-        return False
-    return all(
-        one[2][mine] is other[2][theirs]
-        and all(one[3][mine][at] is other[3][theirs][at] for at in range(len(one[0])))
-        and all((one[1][mine][at], other[1][theirs][at]) in pairs for at in range(len(one[1][0])))
-        for mine, theirs in pairs
-    )
-
-
-def empty_states(states, machine):
-    """Whether the states are as point 6 tells, asked word by word of it."""
-    if 0 not in states or any(state not in range(len(machine[1])) for state in states):
-        return False
-    return all(
-        machine[2][state] is False and True not in machine[3][state]
-        and all(goal in states for goal in machine[1][state])
-        for state in states
-    )
-
-
-def parting_endings(machine, one, other, long):
-    """All endings with which both beginnings are that long and just one word is had."""
-    endings = ["".join(ending) for ending in itertools.product(machine[0], repeat=long - len(one))]
-    return [ending for ending in endings if reads(machine, one + ending) != reads(machine, other + ending)]
-
-
-def beginnings(machine, most):
-    """All pairs of texts of as many letters, at most so many."""
-    texts = list(words_up_to(machine[0], most))
-    return [(one, other) for one in texts for other in texts if len(one) == len(other)]
 
 
 class TestClasses(unittest.TestCase):
